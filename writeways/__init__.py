@@ -1,0 +1,1 @@
+"""Writeways: near rooms before a slow one."""
