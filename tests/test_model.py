@@ -1,12 +1,10 @@
 """Points 4 to 7 against a second telling of the document, behind each deed of long rows."""
 
-import itertools
 import random
 import unittest
 
+from helpers import RULES
 from writeways.halls import Hall
-
-RULES = list(itertools.product((1, 2, 4), (1, 2, 3, 4), ("through", "back"), ("in", "by"), ("first", "late")))
 
 
 class Model:

@@ -1,13 +1,12 @@
 """Point 9: what one room passes on; test_rooms.py has more, worked out by hand."""
 
-import itertools
 import random
 import unittest
 
+from helpers import RULES
 from writeways.errors import BadDeed, BadRule
 from writeways.halls import Hall, passed
 
-RULES = list(itertools.product((1, 2, 4), (1, 2, 3, 4), ("through", "back"), ("in", "by"), ("first", "late")))
 GOOD = (1, 1, "back", "in", "first")
 
 BAD_ASKS = (

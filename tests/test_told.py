@@ -1,20 +1,10 @@
 """Point 8: plain and told."""
 
-import itertools
 import random
 import unittest
 
+from helpers import RULES, some_deeds
 from writeways.halls import Hall, plain, told
-
-RULES = list(itertools.product((1, 2, 4), (1, 2, 3, 4), ("through", "back"), ("in", "by"), ("first", "late")))
-
-
-def some_deeds(chance, hands, count, cells):
-    deeds = []
-    for at in range(count):
-        hand, place = chance.randrange(hands), chance.randrange(cells)
-        deeds.append(("look", hand, place) if chance.randrange(2) else ("set", hand, place, chance.randrange(1000)))
-    return deeds
 
 
 class Plain(unittest.TestCase):

@@ -3,12 +3,60 @@
 import copy
 import unittest
 
+from writeways.depths import depths, late_brings
 from writeways.errors import WayError
+from writeways.fewest import fewest, judged
 from writeways.halls import Hall, passed, plain, told
+from writeways.least import least
+from writeways.notes import read, written
 
 BACK = (2, 2, "back", "in", "late")
 THROUGH = (1, 3, "through", "by", "first")
 DEEDS = [("set", 0, 5, 42), ("look", 1, 5), ("set", 1, 20, 7), ("look", 0, 21), ("set", 0, 5, 43), ("look", 1, 5)]
+ASKS = [("look", 3), ("cell", 4), ("bring", 5), ("home", 6)]
+BLOCKS = [3, 5, 6, 3, 9, 3, 5]
+LEAVINGS = [5, 6, 9]
+
+# Each function with what it may be handed, and with what it refuses.
+GOOD_CALLS = (
+    (plain, 2, DEEDS),
+    (told, [BACK, THROUGH], 2, DEEDS),
+    (passed, BACK, ASKS),
+    (depths, BLOCKS),
+    (late_brings, BLOCKS),
+    (fewest, BLOCKS, 2),
+    (judged, BLOCKS, 2, LEAVINGS),
+    (least, [[THROUGH], [BACK, THROUGH], [THROUGH]], 2, DEEDS),
+    (written, [BACK, THROUGH], DEEDS),
+    (read, "room 2 2 back in late\nlook 0 5\nset 1 5 42"),
+)
+BAD_CALLS = (
+    (plain, 2, DEEDS + [()]),
+    (told, [BACK, ()], 2, DEEDS),
+    (told, [BACK, THROUGH], 2, DEEDS + [("look", 2, 0)]),
+    (passed, BACK, ASKS + [("look", 64)]),
+    (depths, BLOCKS + [16]),
+    (late_brings, BLOCKS + [-1]),
+    (fewest, BLOCKS + [16], 2),
+    (fewest, BLOCKS, 9),
+    (judged, BLOCKS, 2, LEAVINGS + [3]),
+    (judged, BLOCKS, 2, LEAVINGS[:2]),
+    (judged, BLOCKS, 2, [5, 6, 6]),
+    (least, [[BACK], [BACK, THROUGH, ()]], 2, DEEDS),
+    (least, [[BACK], [BACK, THROUGH]], 2, DEEDS + [()]),
+    (written, [BACK, THROUGH], DEEDS + [()]),
+    (read, "room 2 2 back in late\nlook 0 5\nset 1 5 1000"),
+)
+
+
+def spoil(told):
+    """Change all that can be changed of what was told."""
+    if isinstance(told, (list, tuple)):
+        for part in told:
+            spoil(part)
+    if isinstance(told, list):
+        told.reverse()
+        told.append("spoilt")
 
 
 def all_told(hall, levels, hands):
@@ -28,14 +76,39 @@ def busy_hall():
 
 class HandedIn(unittest.TestCase):
     def test_nothing_handed_in_is_changed(self):
-        rules, deeds = [BACK, THROUGH], list(DEEDS)
-        asks = [("look", 3), ("cell", 4), ("bring", 5), ("home", 6)]
-        given = copy.deepcopy((rules, deeds, asks))
-        Hall(rules, 2)
-        plain(2, deeds)
-        told(rules, 2, deeds)
-        passed(BACK, asks)
-        self.assertEqual((rules, deeds, asks), given)
+        for work, *given in GOOD_CALLS + ((Hall, [BACK, THROUGH], 2),):
+            with self.subTest(work=work.__name__):
+                handed = copy.deepcopy(given)
+                work(*handed)
+                self.assertEqual(handed, given)
+
+    def test_nor_what_is_refused(self):
+        for work, *given in BAD_CALLS + ((Hall, [BACK, ()], 2), (Hall, [BACK] * 4, 2), (Hall, [BACK], 0)):
+            with self.subTest(work=work.__name__, given=given):
+                handed = copy.deepcopy(given)
+                with self.assertRaises(WayError):
+                    work(*handed)
+                self.assertEqual(handed, given)
+
+    def test_what_is_handed_in_may_be_changed_later(self):
+        for work, *given in GOOD_CALLS:
+            with self.subTest(work=work.__name__):
+                handed = copy.deepcopy(given)
+                got = work(*handed)
+                before = copy.deepcopy(got)
+                spoil(handed)
+                self.assertEqual(got, before)
+                self.assertEqual(work(*given), before)
+
+    def test_a_list_that_was_changed_is_read_anew(self):
+        blocks, deeds = [1, 2, 1], [("look", 0, 0)]
+        self.assertEqual((depths(blocks), fewest(blocks, 1)), ([None, None, 1], (3, [1, 2])))
+        self.assertEqual((late_brings(blocks)[0], judged(blocks, 2, [])), (3, 2))
+        self.assertEqual((least([[BACK]], 1, deeds), written([BACK], deeds)[-8:]), ((0, 4), "look 0 0"))
+        blocks[1], deeds[0] = 1, ("set", 0, 0, 1)
+        self.assertEqual((depths(blocks), fewest(blocks, 1)), ([None, 0, 0], (1, [])))
+        self.assertEqual((late_brings(blocks)[0], judged(blocks, 2, [])), (1, 1))
+        self.assertEqual((least([[BACK]], 1, deeds), written([BACK], deeds)[-9:]), ((0, 8), "set 0 0 1"))
 
     def test_rules_are_not_kept(self):
         rules = [BACK, BACK, THROUGH]
@@ -51,6 +124,8 @@ class HandedIn(unittest.TestCase):
         self.assertIsNot(plain(1, deeds)[0], deeds)
         self.assertIsNot(told([BACK], 1, deeds)[0], deeds)
         self.assertIsNot(passed(BACK, deeds), deeds)
+        self.assertIsNot(depths(deeds), deeds)
+        self.assertIsNot(fewest(deeds, 1)[1], deeds)
 
 
 class Told(unittest.TestCase):
@@ -82,6 +157,35 @@ class Told(unittest.TestCase):
         self.assertEqual(got, before)
         self.assertNotEqual(all_told(hall, 3, 2), before)
 
+    def test_what_functions_tell_may_be_changed_too(self):
+        for work, *given in GOOD_CALLS:
+            with self.subTest(work=work.__name__):
+                got = work(*given)
+                before = copy.deepcopy(got)
+                spoil(got)
+                self.assertEqual(work(*given), before)
+
+    def test_kinds_of_the_rules_held_against_each_other(self):
+        self.assertEqual([type(part) for part in depths([1, 1, 2])], [type(None), int, type(None)])
+        self.assertEqual([type(depths([])), type(depths([1]))], [list, list])
+        self.assertEqual([type(late_brings([])), *map(type, late_brings([]))], [list] + [int] * 16)
+        for got in (fewest([], 1), fewest(BLOCKS, 2)):
+            self.assertEqual([type(got), *map(type, got)], [tuple, int, list])
+        self.assertEqual({type(part) for part in fewest(BLOCKS, 2)[1]}, {int})
+        self.assertEqual([type(judged([], 1, [])), type(judged(BLOCKS, 2, LEAVINGS))], [int, int])
+        for got in (least([[BACK]], 1, []), least([[BACK], [THROUGH]], 2, DEEDS)):
+            self.assertEqual([type(got), *map(type, got)], [tuple, int, int])
+
+    def test_kinds_of_texts(self):
+        text = written([BACK, THROUGH], DEEDS)
+        self.assertIs(type(text), str)
+        got = read(text)
+        self.assertEqual([type(got), *map(type, got)], [tuple, list, list])
+        for part in got[0]:
+            self.assertEqual([type(part), *map(type, part)], [tuple, int, int, str, str, str])
+        for part in got[1]:
+            self.assertEqual([type(part), *map(type, part)], [tuple, str] + [int] * (len(part) - 1))
+
     def test_kinds(self):
         hall = busy_hall()
         self.assertIs(type(hall.look(0, 5)), int)
@@ -100,17 +204,18 @@ class Told(unittest.TestCase):
         self.assertIs(type(moves[0]), tuple)
         self.assertIs(type(passed(BACK, [("look", 0)])[0]), tuple)
 
-    def test_methods_stand_in_the_class_itself(self):
-        for name in ("look", "change", "settle", "far", "near", "log", "moves"):
-            self.assertIn(name, vars(Hall))
-
     def test_asked_again_the_same_is_told(self):
         hall = busy_hall()
         self.assertEqual(all_told(hall, 3, 2), all_told(hall, 3, 2))
-        self.assertEqual(plain(2, DEEDS), plain(2, DEEDS))
-        self.assertEqual(told([BACK, THROUGH], 2, DEEDS), told([BACK, THROUGH], 2, DEEDS))
-        asks = [("cell", 4), ("home", 6), ("bring", 9)]
-        self.assertEqual(passed(BACK, asks), passed(BACK, asks))
+        first = [work(*given) for work, *given in GOOD_CALLS]
+        self.assertEqual([work(*given) for work, *given in GOOD_CALLS], first)
+
+    def test_refused_between_the_same_is_told(self):
+        first = [work(*given) for work, *given in GOOD_CALLS]
+        for work, *given in BAD_CALLS * 2:
+            with self.assertRaises(WayError):
+                work(*given)
+        self.assertEqual([work(*given) for work, *given in GOOD_CALLS], first)
 
     def test_halls_do_not_share(self):
         one, other = Hall([BACK], 1), Hall([BACK], 1)

@@ -1,4 +1,4 @@
-"""Cells, rules, deeds and asks: what they are, and what is refused."""
+"""Cells, rules, deeds, asks and blocks: what they are, and what is refused."""
 
 from writeways.errors import BadDeed, BadHand, BadHands, BadNumber, BadPlace, BadRule
 
@@ -11,6 +11,7 @@ MOST_RULES = 3
 MOST_HANDS = 3
 MOST_DEEDS = 200
 MOST_ASKS = 400
+MOST_LOOKED_AT = 200
 
 SETS = (1, 2, 4)
 MOST_WAYS = 4
@@ -96,6 +97,12 @@ def check_deeds(deeds, hands):
 def check_asks(asks):
     for at, ask in enumerate(asks):
         if at == MOST_ASKS or not is_ask(ask):
+            raise BadDeed(at)
+
+
+def check_blocks(blocks):
+    for at, block in enumerate(blocks):
+        if at == MOST_LOOKED_AT or not is_block(block):
             raise BadDeed(at)
 
 
