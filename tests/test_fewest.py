@@ -5,7 +5,7 @@ import random
 import unittest
 
 from helpers import RULES, Refusals, some_blocks
-from writeways.depths import late_brings
+from writeways.depths import depths, late_brings
 from writeways.errors import BadDeed, BadLeavings, BadWays
 from writeways.fewest import fewest, judged
 from writeways.halls import passed
@@ -55,6 +55,18 @@ def fewest_on_the_way(blocks, ways):
     return min(states.values())
 
 
+def late_leavings(blocks, ways):
+    """Who leaves by the late rule: of those held the one whose last look is the longest ago."""
+    held, leavings = [], []
+    for at, block in enumerate(blocks):
+        if block not in held:
+            if len(held) == ways:
+                leavings.append(min(held, key=lambda other: max(back for back in range(at) if blocks[back] == other)))
+                held.remove(leavings[-1])
+            held.append(block)
+    return leavings
+
+
 class Fewest(unittest.TestCase):
     def test_by_hand(self):
         for blocks, ways, told in (
@@ -90,6 +102,18 @@ class Fewest(unittest.TestCase):
                     brings, leavings = fewest(list(blocks), ways)
                     self.assertEqual(brings, min(tries.values()), (blocks, ways))
                     self.assertEqual(tries.get(tuple(leavings)), brings, (blocks, ways))
+
+    def test_the_late_rule_is_one_of_all_leavings(self):
+        for count in range(7):
+            for blocks in itertools.product((3, 0, 15, 8), repeat=count):
+                found, late = depths(list(blocks)), late_brings(list(blocks))
+                for ways in (1, 2, 3):
+                    tries, leavings = all_leavings(blocks, ways), late_leavings(blocks, ways)
+                    self.assertEqual(tries[tuple(leavings)], late[ways - 1], (blocks, ways))
+                    self.assertEqual(judged(list(blocks), ways, leavings), late[ways - 1], (blocks, ways))
+                    self.assertGreaterEqual(late[ways - 1], min(tries.values()), (blocks, ways))
+                    there = [depth for depth in found if depth is not None and depth < ways]
+                    self.assertEqual(count - len(there), late[ways - 1], (blocks, ways))
 
     def test_against_all_that_can_be_held(self):
         chance = random.Random(11)
